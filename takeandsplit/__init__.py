@@ -1,0 +1,1 @@
+"""Takeandsplit: heaps of any size, by whatever rule books."""
