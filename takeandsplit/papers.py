@@ -100,10 +100,11 @@ def least_paper(paper):
 def papers_part(paper, other):
     """The least number of which the papers tell unlike values, None if there is none.
 
-    Steps by the one period up and by the other one down lead, within a stretch
-    as long as both periods together, from some number back to itself, and to
-    each number from one of a lesser stretch: so what both tell alike there,
-    from both begins on, has one gain and comes again alike.
+    From both begins on it is enough to look as far as both periods together.
+    Steps of the one period up and of the other one down stay in this stretch
+    and come back to where they began: so where both tell the same there, they
+    gain alike in the long run, and what they tell comes again already by the
+    greatest common divisor of the periods, there and behind.
     """
     need_paper(paper)
     need_paper(other)
