@@ -30,6 +30,12 @@ def need_number(thing):
         raise BadNumber(thing)
 
 
+def need_from_one(thing):
+    """Raises BadNumber for what is no number from 1 on."""
+    if not is_number(thing) or thing == 0:
+        raise BadNumber(thing)
+
+
 def need_position(house, thing):
     """Raises BadPosition for what is no position of the house."""
     if not is_row(thing):
@@ -38,3 +44,9 @@ def need_position(house, thing):
     for index, part in enumerate(thing):
         if not is_pair(part) or part[0] not in names:
             raise BadPosition(index)
+
+
+def need_below(many, thing):
+    """Raises BadNumber for what is no number below this one."""
+    if not is_number(thing) or thing >= many:
+        raise BadNumber(thing)

@@ -62,6 +62,18 @@ def pairs_to(first, total):
     return whole * whole // 4 + first * (total - whole)
 
 
+def first_with(choices, most, rank):
+    """The least number, to most, such that more than so many of the choices have a first heap up to it."""
+    short, first = 0, most
+    while first - short > 1:
+        middle = (short + first) // 2
+        if choices.many_to(middle) > rank:
+            first = middle
+        else:
+            short = middle
+    return first
+
+
 class Leavings:
     """All options of one heap by one book, ascending as lists compare."""
 
@@ -101,14 +113,8 @@ class Leavings:
         if self.nothing and number == 0:
             return []
         rank = number - int(self.nothing)
-        short, first = 0, self.heap
-        while first - short > 1:
-            middle = (short + first) // 2
-            if self.many_to(middle) > rank:
-                first = middle
-            else:
-                short = middle
-        rank -= self.many_to(short)
+        first = first_with(self, self.heap, rank)
+        rank -= self.many_to(first - 1)
         alone = count_in(self.singles, first, first)
         if rank < alone:
             return [first]

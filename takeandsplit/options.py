@@ -1,10 +1,10 @@
 """Options of heaps: listed, shown by what is taken, counted, and told by number."""
 
-from takeandsplit.checks import need_book, need_heap
-from takeandsplit.errors import BadNumber, BadOption
+from takeandsplit.checks import need_below, need_book, need_heap
+from takeandsplit.errors import BadOption
 from takeandsplit.leavings import Leavings
 from takeandsplit.rules import rule_takes
-from takeandsplit.things import is_heaps, is_number
+from takeandsplit.things import is_heaps
 
 
 def leavings_of(book, heap):
@@ -46,8 +46,7 @@ def count_options(book, heap):
 def option_at(book, heap, number):
     """The option of the heap with this index."""
     left = leavings_of(book, heap)
-    if not is_number(number) or number >= left.many():
-        raise BadNumber(number)
+    need_below(left.many(), number)
     return left.option_with(number)
 
 

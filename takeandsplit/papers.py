@@ -21,6 +21,12 @@ def need_paper(thing):
         raise BadPaper(thing)
 
 
+def copied_paper(paper):
+    """The same paper as a tuple of its own, with a list of its own."""
+    begin, period, gain, told = paper
+    return (begin, period, gain, list(told))
+
+
 def told_of(paper, number):
     """What the paper tells of a number."""
     begin, period, gain, told = paper

@@ -1,5 +1,7 @@
 """What rules are, their lines, and which ones go with one another."""
 
+from math import lcm
+
 from takeandsplit.things import is_number, is_row
 
 LEFTS = ("none", "one", "two")
@@ -29,6 +31,19 @@ def is_growing(rule):
 def is_splitting(rule):
     """Whether the rule leaves two heaps."""
     return rule[2] == "two"
+
+
+def turn_of(rules):
+    """The least common multiple of the rules' moduli, 1 without rules."""
+    turn = 1
+    for rule in rules:
+        turn = lcm(turn, rule[4])
+    return turn
+
+
+def reach_of(rules):
+    """The greatest number that stands as a low or high in the rules, 0 without any."""
+    return max([rule[0] if is_growing(rule) else rule[1] for rule in rules], default=0)
 
 
 def rule_takes(rule, heap, taken, many):

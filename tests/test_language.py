@@ -73,6 +73,21 @@ def is_call_of(node, names):
     return isinstance(node, ast.Call) and isinstance(node.func, ast.Name) and node.func.id in names
 
 
+def families():
+    """For each class the names of methods and of attributes, its own and those of its base classes."""
+    classes = {node.name: node for tree in TREES.values() for node in ast.walk(tree) if isinstance(node, ast.ClassDef)}
+    told = {}
+    for name, node in classes.items():
+        line = [node]
+        while line[-1].bases and line[-1].bases[0].id in classes:
+            line.append(classes[line[-1].bases[0].id])
+        parts = [part for one in line for part in ast.walk(one)]
+        made = {part.name for part in parts if isinstance(part, ast.FunctionDef)}
+        kept = {part.attr for part in parts if isinstance(part, ast.Attribute) and isinstance(part.ctx, ast.Store)}
+        told[name] = (made, kept)
+    return told
+
+
 class LanguageTest(unittest.TestCase):
     def each(self):
         for stem, tree in TREES.items():
@@ -204,7 +219,8 @@ class LanguageTest(unittest.TestCase):
                for part in node.body if isinstance(part, ast.FunctionDef)}
         stored = {node.attr for tree in TREES.values() for node in ast.walk(tree)
                   if isinstance(node, ast.Attribute) and isinstance(node.ctx, ast.Store)}
-        self.assertFalse(own & stored, "methods and attributes have names of their own")
+        for name, (made, kept) in families().items():
+            self.assertFalse(made & kept, (name, "methods and attributes have names of their own"))
         self.assertFalse(stored & BARRED_ATTRIBUTES)
         for stem, tree in self.each():
             above = parents(tree)
