@@ -3,16 +3,8 @@
 from takeandsplit.checks import need_house, need_position
 from takeandsplit.errors import BadEngine, BadPapers, WrongPaper
 from takeandsplit.finding import Finder
-from takeandsplit.growing import growing_fault
-from takeandsplit.looks import look_fault
+from takeandsplit.judging import is_right
 from takeandsplit.papers import copied_paper
-from takeandsplit.takings import grows
-
-
-def is_right(book, thing):
-    """Whether any object is a paper that is judged right for the book."""
-    fault = growing_fault(book, thing) if grows(book) else look_fault(book, thing)
-    return fault is None
 
 
 def has_just(thing, names):

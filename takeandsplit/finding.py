@@ -91,12 +91,13 @@ class Choices:
 
 
 class Finder:
-    """The options of whatever heaps by a book, and their values by a right paper of it."""
+    """The options of whatever heaps by a book, and their values by a right paper of it, or of a book alike."""
 
     def __init__(self, book, paper):
         self.own_book = book
         self.own_paper = paper
         self.by_total = {}
+        self.tame_faults = []
 
     def heap_value(self, heap):
         """The value of a heap."""

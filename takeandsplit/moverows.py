@@ -27,3 +27,12 @@ def number_in_rows(rows, move):
     ahead = [some.many() for name, heap, some in rows if (name, heap) < pair]
     own = [some.number_of(sorted(move[2])) for name, heap, some in rows if (name, heap) == pair]
     return sum(ahead + own)
+
+
+def least_in_rows(rows):
+    """The first move that is in the rows, None if there is none."""
+    for name, heap, some in rows:
+        option = some.least()
+        if option is not None:
+            return (name, heap, option)
+    return None

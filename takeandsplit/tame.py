@@ -56,16 +56,27 @@ def tame_by(engine, name, heap):
     return least_shown(engine.finder(name), heap)
 
 
-def tame_fault(engine, name):
-    """The least heap under the name that is not tame, with the letter, None if all are."""
-    need_no_growing_name(engine, name)
-    finder = engine.finder(name)
+def first_not_tame(finder):
+    """The least heap that is not tame, with the letter, None if all are."""
     begin, period, _, _ = finder.own_paper
     for heap in range(1, look_end(finder.own_book, begin, period) + 1):
         why = why_not(finder, heap)
         if why is not None:
             return (heap, why)
     return None
+
+
+def kept_fault(finder):
+    """The same, looked for once alone: each question about a position asks it of all its books."""
+    if len(finder.tame_faults) == 0:
+        finder.tame_faults.append(first_not_tame(finder))
+    return finder.tame_faults[0]
+
+
+def tame_fault(engine, name):
+    """The least heap under the name that is not tame, with the letter, None if all are."""
+    need_no_growing_name(engine, name)
+    return kept_fault(engine.finder(name))
 
 
 def is_tame_fault(engine, name, thing):
