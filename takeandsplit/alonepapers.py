@@ -3,11 +3,11 @@
 from math import lcm
 
 from takeandsplit.checks import need_from_one
-from takeandsplit.papers import is_paper, told_below
+from takeandsplit.papers import is_paper
 from takeandsplit.rules import reach_of, turn_of
 from takeandsplit.tables import Table
 from takeandsplit.takings import last_values, need_alone
-from takeandsplit.values import values_fault
+from takeandsplit.values import paper_values_fault
 
 
 def alone_paper(book, most):
@@ -38,4 +38,4 @@ def alone_fault(book, thing):
         return ("gain",)
     rules = book.rules()
     end = begin + lcm(period, turn_of(rules)) + reach_of(rules)
-    return values_fault(book, told_below(thing, end))
+    return paper_values_fault(book, thing, end)

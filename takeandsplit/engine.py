@@ -5,6 +5,7 @@ from takeandsplit.errors import BadEngine, BadPapers, WrongPaper
 from takeandsplit.finding import Finder
 from takeandsplit.judging import is_right
 from takeandsplit.papers import copied_paper
+from takeandsplit.tables import sum_of
 
 
 def has_just(thing, names):
@@ -42,10 +43,7 @@ class Engine:
     def value(self, position):
         """The sum without carry of the values of the position's heaps."""
         need_position(self._house, position)
-        total = 0
-        for name, heap in position:
-            total = total ^ self._finders[name].heap_value(heap)
-        return total
+        return sum_of([self._finders[name].heap_value(heap) for name, heap in position])
 
     def wins(self, position):
         """Whether who moves wins, who takes last winning."""

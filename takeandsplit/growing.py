@@ -4,11 +4,11 @@ from math import lcm
 
 from takeandsplit.checks import need_from_one
 from takeandsplit.errors import NotGrowing
-from takeandsplit.papers import is_paper, told_below
+from takeandsplit.papers import is_paper
 from takeandsplit.rules import reach_of, turn_of
 from takeandsplit.tables import Table
 from takeandsplit.takings import grows, last_values, need_heap_above
-from takeandsplit.values import values_fault
+from takeandsplit.values import paper_values_fault
 
 
 def need_growing(book):
@@ -91,7 +91,7 @@ def growing_fault(book, thing):
     rules = book.rules()
     first = max(thing[0], reach_of(rules) + 1)
     period = lcm(thing[1], turn_of(rules))
-    fault = values_fault(book, told_below(thing, first + period))
+    fault = paper_values_fault(book, thing, first + period)
     if fault is None and not is_shown(book, thing, first, period):
         return ("state",)
     return fault

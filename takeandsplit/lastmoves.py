@@ -2,9 +2,10 @@
 
 from takeandsplit.checks import need_below
 from takeandsplit.finding import kinds_with
-from takeandsplit.lastwins import heap_values, loses_last, need_tame, sum_of
+from takeandsplit.lastwins import heap_values, loses_last, need_tame
 from takeandsplit.moverows import count_in_rows, least_in_rows, move_in_rows, number_in_rows, unlike_pairs
 from takeandsplit.moves import left_behind, need_move
+from takeandsplit.tables import sum_of
 
 
 def losing_kinds(rest, has_high):

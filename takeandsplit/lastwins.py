@@ -3,6 +3,7 @@
 from takeandsplit.checks import need_position
 from takeandsplit.engine import need_engine
 from takeandsplit.errors import HasGrowing, NotTame
+from takeandsplit.tables import sum_of
 from takeandsplit.takings import grows
 from takeandsplit.tame import kept_fault
 
@@ -24,14 +25,6 @@ def need_tame(engine, position):
 def heap_values(engine, position):
     """The list of the values of the position's heaps."""
     return [engine.finder(name).heap_value(heap) for name, heap in position]
-
-
-def sum_of(told):
-    """The sum without carry of a list of values."""
-    total = 0
-    for value in told:
-        total = total ^ value
-    return total
 
 
 def is_lost(told):

@@ -2,12 +2,12 @@
 
 from takeandsplit.checks import need_from_one, need_number
 from takeandsplit.errors import Grows
-from takeandsplit.papers import is_paper, told_below
+from takeandsplit.papers import is_paper
 from takeandsplit.rules import reach_of, turn_of
 from takeandsplit.tables import Table
 from takeandsplit.takings import grows
 from takeandsplit.things import is_heap, is_integer, is_row
-from takeandsplit.values import values_fault
+from takeandsplit.values import paper_values_fault
 
 
 def need_no_growing(book):
@@ -39,7 +39,7 @@ def look_fault(book, thing):
         return ("gain",)
     if period % turn_of(book.rules()) != 0:
         return ("turn",)
-    return values_fault(book, told_below(thing, look_end(book, begin, period) + 1))
+    return paper_values_fault(book, thing, look_end(book, begin, period) + 1)
 
 
 class Looks:

@@ -83,3 +83,8 @@ def rules_fault(thing):
             return index
         seen[tuple(part)] = True
     return None
+
+
+def is_new_rule(rules, thing):
+    """Whether any object is a rule that is none of a book's rules, and may stand beside them."""
+    return rules_fault(rules + [thing]) is None

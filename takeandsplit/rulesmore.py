@@ -7,12 +7,7 @@ from takeandsplit.finding import Finder, kinds_with
 from takeandsplit.judging import need_right
 from takeandsplit.papers import least_paper
 from takeandsplit.rulelooks import look_beyond
-from takeandsplit.rules import LEFTS, is_rule, rules_fault
-
-
-def is_new_rule(rules, thing):
-    """Whether any object is a rule that is none of a book's rules, and may stand beside them."""
-    return rules_fault(rules + [thing]) is None
+from takeandsplit.rules import LEFTS, is_new_rule, is_rule
 
 
 def changed_by(paper, rule):

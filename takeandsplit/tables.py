@@ -12,6 +12,14 @@ def least_missing(seen):
     return number
 
 
+def sum_of(told):
+    """The sum without carry of a list of values."""
+    total = 0
+    for value in told:
+        total = total ^ value
+    return total
+
+
 class Table:
     """The values of 0, 1, 2, .. by one book, as far as they are reckoned.
 
@@ -75,7 +83,4 @@ class Table:
 
     def value_of(self, option):
         """The value of an option of heaps that are reckoned."""
-        value = 0
-        for heap in option:
-            value = value ^ self.told[heap]
-        return value
+        return sum_of([self.told[heap] for heap in option])

@@ -2,6 +2,7 @@
 
 from takeandsplit.checks import need_book, need_number
 from takeandsplit.leavings import Leavings
+from takeandsplit.papers import told_of
 from takeandsplit.tables import Table
 from takeandsplit.things import is_numbers
 
@@ -23,16 +24,25 @@ def wrong_value(book, table, heap, told):
     return ("lacks", heap, table.told[heap])
 
 
+def first_wrong(book, told_at, end):
+    """What shows that the first heap below the end of which a wrong value is told has not this one, or None."""
+    table = Table(book)
+    for heap in range(end):
+        table.reckon_to(heap)
+        told = told_at(heap)
+        if told != table.told[heap]:
+            return wrong_value(book, table, heap, told)
+    return None
+
+
 def values_fault(book, thing):
     """What is wrong with any object as a told list of values, None if nothing is."""
     need_book(book)
     if not is_numbers(thing) or len(thing) == 0:
         return ("form",)
-    if thing[0] != 0:
-        return ("lacks", 0, 0)
-    table = Table(book)
-    for heap, told in enumerate(thing):
-        table.reckon_to(heap)
-        if told != table.told[heap]:
-            return wrong_value(book, table, heap, told)
-    return None
+    return first_wrong(book, lambda heap: thing[heap], len(thing))
+
+
+def paper_values_fault(book, paper, end):
+    """The same of what a paper tells below the end, which may be far: so nothing is listed up to there."""
+    return first_wrong(book, lambda heap: told_of(paper, heap), end)

@@ -195,3 +195,57 @@ def papers_goes_on(text):
 
 def papers_reads(text):
     return papers_state(text, True, 10 ** 19 - 1)[1]
+
+
+def named_heap_goes_on(start, names, most):
+    """Whether `NAME HEAP` with a line feed can begin so, with one of these names."""
+    for name in names:
+        rest = start[len(name) + 1:]
+        if (name + " ").startswith(start):
+            return True
+        if start.startswith(name + " "):
+            return is_whole_number(rest[:-1], 1, most) if rest.endswith("\n") else number_goes_on(rest, 1, most)
+    return False
+
+
+def asking_goes_on(start, names, most):
+    """Whether `watch QUESTION` or `hold QUESTION` with a line feed can begin so."""
+    for word in ("watch ", "hold "):
+        rest = start[len(word):]
+        if word.startswith(start):
+            return True
+        if start.startswith(word):
+            if any((plain + "\n").startswith(rest) for plain in ("wins", "moves", "winning")):
+                return True
+            if "value ".startswith(rest):
+                return len(names) > 0
+            return rest.startswith("value ") and named_heap_goes_on(rest[6:], names, most)
+    return False
+
+
+def session_goes_on(text, most=9):
+    """Whether some session's text begins so, where numbers have one figure; a question that stands counts as read."""
+    names, used, asked, stage = [], None, [], 0
+    for line in re.findall("[^\n]*\n|[^\n]+", text):
+        if stage == 0 and house_goes_on("".join(f"book {name}\n" for name in names) + "".join(used or []) + line):
+            if line.endswith("\n"):
+                if line.startswith("book "):
+                    names.append(line[5:-1])
+                    used = []
+                else:
+                    used.append(line)
+            continue
+        put = "put ".startswith(line) and names or line.startswith("put ") and named_heap_goes_on(line[4:], names, most)
+        if stage < 2 and put:
+            stage = 1
+            continue
+        if not asking_goes_on(line, names, most) or (line.endswith("\n") and line.split(" ", 1)[1] in asked):
+            return False
+        if line.endswith("\n"):
+            stage = 2
+            asked.append(line.split(" ", 1)[1])
+    return True
+
+
+def session_reads(text):
+    return (text == "" or text.endswith("\n")) and session_goes_on(text)

@@ -30,6 +30,7 @@ METHODS = set("""append clear copy count endswith extend find get index insert i
 STATEMENTS = (ast.Assign, ast.AnnAssign, ast.AugAssign, ast.If, ast.While, ast.For, ast.Return, ast.Break, ast.Continue,
               ast.Pass, ast.Raise, ast.Assert, ast.Delete, ast.Nonlocal, ast.With, ast.Try, ast.Expr, ast.FunctionDef,
               ast.ClassDef, ast.ImportFrom)
+SIMPLE = {ast.Assign, ast.Tuple, ast.Name, ast.Attribute, ast.Load, ast.Store}
 BARRED_NAMES = set("""register mro elements open input law version_info with_traceback add_note attrgetter breakpoint builtins
     compile copyright credits delattr dir eval exec exit gc globals help id importlib license locals methodcaller os quit
     super type vars sys""".split())
@@ -179,7 +180,10 @@ class LanguageTest(unittest.TestCase):
                         if isinstance(op, (ast.Is, ast.IsNot)):
                             self.assertIsInstance(right, ast.Constant)
                 if isinstance(node, ast.Try):
-                    self.fail(f"{stem}: look at L19")
+                    self.assertEqual((node.handlers, node.orelse), ([], []), f"{stem}: look at L19")
+                    for part in node.finalbody:
+                        self.assertIsInstance(part, ast.Assign, f"{stem}: look at L6, Finally")
+                        self.assertLessEqual({type(inner) for inner in ast.walk(part)}, SIMPLE, stem)
 
     def test_names(self):
         for stem, tree in self.each():
