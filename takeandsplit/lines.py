@@ -5,7 +5,7 @@ from takeandsplit.engine import need_engine
 from takeandsplit.errors import BadLine, BadNumbers, NotWon
 from takeandsplit.moverows import count_in_rows, move_in_rows
 from takeandsplit.moves import is_move, left_behind, rows_of
-from takeandsplit.things import is_number, is_row
+from takeandsplit.things import is_row, numbers_fault
 from takeandsplit.winning import least_winning
 
 
@@ -35,11 +35,9 @@ def behind(house, position, line):
 
 def need_numbers(thing):
     """Raises BadNumbers for what is no list of numbers."""
-    if not is_row(thing):
-        raise BadNumbers(0)
-    for index, part in enumerate(thing):
-        if not is_number(part):
-            raise BadNumbers(index)
+    index = numbers_fault(thing)
+    if index is not None:
+        raise BadNumbers(index)
 
 
 def move_by(house, position, number):

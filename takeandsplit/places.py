@@ -19,15 +19,15 @@ class Places:
     Rests are reckoned from begin on; both lists ascend.
     """
 
-    def __init__(self, begin, period, once, again):
+    def __init__(self, begin, period, once, rests):
         self.begin = begin
         self.period = period
         self.once = once
-        self.again = again
+        self.rests = rests
 
     def are_endless(self):
         """Whether there is no end of them."""
-        return len(self.again) > 0
+        return len(self.rests) > 0
 
     def many_to(self, number):
         """How many of them are at most this number."""
@@ -35,16 +35,16 @@ class Places:
         if number < self.begin:
             return many
         times, rest = divmod(number + 1 - self.begin, self.period)
-        return many + times * len(self.again) + many_below(self.again, rest)
+        return many + times * len(self.rests) + many_below(self.rests, rest)
 
     def with_index(self, index):
         """The one with this index, ascending, None if there are no more."""
         if index < len(self.once):
             return self.once[index]
-        if len(self.again) == 0:
+        if len(self.rests) == 0:
             return None
-        times, at = divmod(index - len(self.once), len(self.again))
-        return self.begin + times * self.period + self.again[at]
+        times, at = divmod(index - len(self.once), len(self.rests))
+        return self.begin + times * self.period + self.rests[at]
 
     def first_from(self, number):
         """The first one that is not below this number, None if there is none."""

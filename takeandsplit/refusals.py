@@ -72,13 +72,13 @@ def shows_lost(engine, position, thing, loses):
 def is_refusal_by(engine, claim, thing, loses):
     """Whether any object refuses the claim, by who loses."""
     position, word, move = claim
-    if not is_row(thing) or not 1 <= len(thing) <= 2:
+    if not is_row(thing):
         return False
-    told, shown = thing[0], thing[-1]
     if word == "move" and not is_move(engine.house(), position, move):
-        return len(thing) == 1 and told == "no move"
-    if len(thing) == 1:
+        return list(thing) == ["no move"]
+    if len(thing) != 2:
         return False
+    told, shown = thing
     if word == "move":
         return told == "answer" and shows_won(engine, left_behind(position, move), shown, loses)
     if word == "win":

@@ -119,10 +119,7 @@ class Session:
             self._trail, self._done = trail, done
 
     def __eq__(self, other):
-        if not isinstance(other, Session):
-            return False
-        mine, theirs = self.standing(), other.standing()
-        return mine.here() == theirs.here() and mine.pairs == theirs.pairs and mine.asked == theirs.asked
+        return isinstance(other, Session) and self.standing().is_like(other.standing())
 
 
 def session_from(house, position, asked):

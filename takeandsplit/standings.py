@@ -27,6 +27,10 @@ class Standing:
         """The house."""
         return self.reckoner.own_house
 
+    def is_like(self, other):
+        """Whether another one has the same house, the same heaps, and the same questions, held alike, in one order."""
+        return self.here() == other.here() and self.pairs == other.pairs and self.asked == other.asked
+
 
 def is_question_of(house, thing):
     """Whether any object is a question where this is the house."""

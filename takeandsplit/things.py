@@ -42,9 +42,19 @@ def is_name(thing):
     return thing[0] in LETTERS and all([is_name_sign(sign) for sign in thing])
 
 
+def numbers_fault(thing):
+    """The index of the first thing of a list that is no number, 0 for no list, None if all are."""
+    if not is_row(thing):
+        return 0
+    for index, part in enumerate(thing):
+        if not is_number(part):
+            return index
+    return None
+
+
 def is_numbers(thing):
     """Whether it is a list of numbers."""
-    return is_row(thing) and all([is_number(part) for part in thing])
+    return numbers_fault(thing) is None
 
 
 def is_heaps(thing):

@@ -8,7 +8,7 @@ from takeandsplit.errors import BadValues
 from takeandsplit.leavings import Leavings
 from takeandsplit.rules import LEFTS
 from takeandsplit.tables import sum_of
-from takeandsplit.things import is_number, is_row
+from takeandsplit.things import numbers_fault
 
 MOST_SMALL = 3
 
@@ -34,11 +34,9 @@ def small_book(number):
 
 def need_values(thing):
     """Raises BadValues for what is no list of numbers."""
-    if not is_row(thing):
-        raise BadValues(0)
-    for index, part in enumerate(thing):
-        if not is_number(part):
-            raise BadValues(index)
+    index = numbers_fault(thing)
+    if index is not None:
+        raise BadValues(index)
 
 
 def rules_by_value(told, heap):

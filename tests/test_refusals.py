@@ -85,7 +85,7 @@ def near_ones(position, moves, told):
     near = [("no move",), ("no move", None), ("won", None), ("answer", None), ("lost",), ("won",), ("answer",), ("move",)]
     near += [("lost", row) for row in rows] + [("won", row) for row in rows]
     near += [(word, move) for word in ("won", "answer", "lost", "move", "no move") for move in moves]
-    near += [("won", move[:2]) for move in moves[:2]] + [("won", move, 0) for move in moves[:2]]
+    near += [(word, 0, move) for word in ("won", "answer") for move in moves] + [("won", move[:2]) for move in moves[:2]] + [("won", move, 0) for move in moves[:2]]
     return near
 
 

@@ -226,8 +226,7 @@ class DeedsTest(Refusals, unittest.TestCase):
     def test_each_error_at_each_part(self):
         session = session_of({"p": P_RULES, "q": Q_RULES, "e": []}, [("p", 4)], [("watch", ("wins",)), ("hold", ("moves",))])
         for thing in odd_things():
-            if not isinstance(thing, (list, tuple)):
-                self.refuses(BadDeed, {"thing": thing}, session.do, thing)
+            self.refuses(BadDeed, {"thing": thing}, session.do, thing)
             for deed in ((thing, "p"), [thing], ("book", "p", thing), ("put", "p", 3, thing), ("move", "p", thing), (thing, "p", 3)):
                 self.refuses(BadDeed, {"thing": deed}, session.do, deed)
                 self.refuses(BadDeed, {"thing": deed}, session.would, deed)
