@@ -1,5 +1,6 @@
 """Points 77 to 83 and 85: sessions."""
 
+import itertools
 import random
 import time
 import unittest
@@ -8,7 +9,10 @@ from takeandsplit import errors
 from takeandsplit.books import Book
 from takeandsplit.errors import BadDeed, BadName, BadQuestion, HeapError, InUse, IsWatched, NoCount, NotWatched, WouldChange
 from takeandsplit.houses import House
+from takeandsplit.moves import count_moves
 from takeandsplit.sessions import Session
+from takeandsplit.winning import count_winning
+from tests.engines import many_engines
 from tests.plainplay import Refusals, no_heaps, no_numbers
 from tests.plainsessions import (
     EMPTY_STATE, Refused, is_plain_question, judged, left_in, moves_in, odd_parts, plain_answer, random_deed, winning_in,
@@ -142,6 +146,18 @@ class RandomTest(unittest.TestCase):
                 if is_one:
                     answer = session.answer(thing)
                     self.assertEqual((answer, type(answer)), (plain_answer(state, thing), bool if thing[0] == "wins" else int))
+
+    def test_heaps_to_forty_against_engines(self):
+        rng = random.Random(505)
+        for engine in many_engines(25, 506):
+            books = {name: book.rules() for name, book in engine.house().books()}
+            heaps = [(rng.choice(list(books)), rng.randint(1, 40)) for _ in range(rng.randint(1, 6))]
+            session = session_of(books, heaps)
+            self.assertEqual(session.answer(("winning",)), count_winning(engine, heaps))
+            self.assertEqual(session.answer(("moves",)), count_moves(engine.house(), heaps))
+            self.assertIs(session.answer(("wins",)), engine.wins(heaps))
+            for pair in itertools.product(books, (1, 17, 40)):
+                self.assertEqual(session.answer(("value",) + pair), engine.value([pair]))
 
 
 class DeedsTest(Refusals, unittest.TestCase):
